@@ -314,42 +314,12 @@ func isValidDeal(d api.Deal) bool {
 // carried follows the table's columns of what a valid deal does, and of its errors.
 func carried(b api.Books, d api.Deal) (api.Books, api.Errno) {
 	n := cloneBooks(b)
-	var card *api.Card
-	for i := range n.Cards {
-		if n.Cards[i].Receiver == d.Receiver {
-			card = &n.Cards[i]
-		}
-	}
-	asMove := func() api.Errno {
-		if card == nil {
-			return 6
-		}
-		if card.Dead {
-			return 60
-		}
-		return 0
-	}
 	switch d.Kind {
 	case 1:
 		if len(b.Products) >= 8 {
 			return b, 9
 		}
 		n.Products = append(n.Products, api.Product{Regions: d.Region, Level: d.Level, Price: d.Amount, View: d.View})
-	case 2:
-		if card != nil {
-			return b, 61
-		}
-		n.Cards = append(n.Cards, api.Card{Receiver: d.Receiver, Account: d.Account, Region: d.Region, Level: d.Level})
-	case 3:
-		if e := asMove(); e != 0 {
-			return b, e
-		}
-		card.Account, card.Home, card.Met = d.Account, 0, 0
-	case 4:
-		if e := asMove(); e != 0 {
-			return b, e
-		}
-		card.Dead, card.Home, card.Met = true, 0, 0
 	case 5:
 		if d.Item >= len(b.Products) {
 			return b, 6
@@ -374,10 +344,40 @@ func carried(b api.Books, d api.Deal) (api.Books, api.Errno) {
 			return b, 9
 		}
 		n.Licences = append(n.Licences, api.Licence{Account: d.Account, Title: d.Item, Until: d.To, Plays: d.Amount})
-	case 10:
-		if e := asMove(); e != 0 {
-			return b, e
+	default:
+		return carriedOnCard(b, d)
+	}
+	return n, 0
+}
+
+// carriedOnCard is carried for the kinds that name a card.
+func carriedOnCard(b api.Books, d api.Deal) (api.Books, api.Errno) {
+	n := cloneBooks(b)
+	var card *api.Card
+	for i := range n.Cards {
+		if n.Cards[i].Receiver == d.Receiver {
+			card = &n.Cards[i]
 		}
+	}
+	if d.Kind == 2 {
+		if card != nil {
+			return b, 61
+		}
+		n.Cards = append(n.Cards, api.Card{Receiver: d.Receiver, Account: d.Account, Region: d.Region, Level: d.Level})
+		return n, 0
+	}
+	if card == nil {
+		return b, 6
+	}
+	if card.Dead {
+		return b, 60
+	}
+	switch d.Kind {
+	case 3:
+		card.Account, card.Home, card.Met = d.Account, 0, 0
+	case 4:
+		card.Dead, card.Home, card.Met = true, 0, 0
+	case 10:
 		for i, l := range n.Licences {
 			if l.Account == card.Account && l.Title == d.Item && l.Until > d.From && l.Plays > 0 {
 				n.Licences[i].Plays--
@@ -386,9 +386,6 @@ func carried(b api.Books, d api.Deal) (api.Books, api.Errno) {
 		}
 		return b, 6
 	case 11:
-		if e := asMove(); e != 0 {
-			return b, e
-		}
 		others := 0
 		for _, c := range b.Cards {
 			if d.Amount != 0 && c.Home == d.Amount && c.Receiver != d.Receiver {
@@ -402,15 +399,10 @@ func carried(b api.Books, d api.Deal) (api.Books, api.Errno) {
 		}
 		card.Home, card.Met = d.Amount, 0
 	case 12:
-		if e := asMove(); e != 0 {
-			return b, e
-		}
 		if card.Home == 0 {
 			return b, 63
 		}
-		if card.Met < d.From+1 {
-			card.Met = d.From + 1
-		}
+		card.Met = max(card.Met, d.From+1)
 	}
 	return n, 0
 }
