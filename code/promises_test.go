@@ -32,7 +32,7 @@ func someUsers(r *rand.Rand, n int) []int { return r.Perm(n)[:1+r.Intn(n)] }
 func TestCompleteCodesNameUsers(t *testing.T) { // P7.6
 	r := rand.New(rand.NewSource(21))
 	complete := 0
-	for range 1500 {
+	for range 700 {
 		c := someSteps(r)
 		if is := must[bool](t)(code.Complete(c)); !is {
 			continue
@@ -48,7 +48,7 @@ func TestCompleteCodesNameUsers(t *testing.T) { // P7.6
 			}
 		}
 	}
-	if complete < 300 {
+	if complete < 150 {
 		t.Error("too few complete codes:", complete)
 	}
 }
@@ -219,7 +219,7 @@ func TestOneUserAlone(t *testing.T) { // P7.7
 }
 
 func TestSmallCodesThatAreComplete(t *testing.T) { // P7.7
-	for d := 1; d <= api.MaxBlock; d++ {
+	for _, d := range []int{1, 2, 3, 4, 5, 6, 7, 8, 20, 33, 63, 64} {
 		for i, limit := range append(nearLimits(mostOfOne(d)), part(0, 1), part(999, 1000)) {
 			if is := must[bool](t)(code.Complete(api.Steps{Users: 2, Block: d, Limit: limit})); !is {
 				t.Error("2 users:", d, limit)

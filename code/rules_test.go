@@ -201,7 +201,7 @@ func spoil(r *rand.Rand, a *arguments) {
 func TestRules(t *testing.T) { // R2, R3, R7
 	r := rand.New(rand.NewSource(32))
 	results, errors := map[string]int{}, map[string]int{}
-	for i := range 1500 {
+	for i := range 700 {
 		a := someArguments(r, i%2 == 1)
 		before := memory(a)
 		for name, call := range calls() {
@@ -229,7 +229,7 @@ func TestRules(t *testing.T) { // R2, R3, R7
 		}
 	}
 	for name := range calls() {
-		if results[name] < 500 || errors[name] < 50 {
+		if results[name] < 250 || errors[name] < 20 {
 			t.Error(name, "has too few results or errors:", results[name], errors[name])
 		}
 	}

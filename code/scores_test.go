@@ -154,7 +154,7 @@ func TestChance(t *testing.T) { // P7.4, P7.8
 
 func TestChanceLarge(t *testing.T) { // P7.4, R5: the largest codes, and numbers of any size
 	r := rand.New(rand.NewSource(13))
-	for range 20 {
+	for range 8 {
 		c := scoresOf(r, 1, pick(r, 2, 31, 32), pick(r, 63, 64))
 		y := pick(r, someList(r, len(c.Biases), 3), someList(r, len(c.Biases), 2))
 		least, greatest := scoreRange(c, y)
@@ -198,7 +198,7 @@ func TestBound(t *testing.T) { // P7.4
 
 func TestBoundLarge(t *testing.T) { // P7.4
 	r := rand.New(rand.NewSource(15))
-	for range 20 {
+	for range 8 {
 		c := scoresOf(r, 1, pick(r, 2, 31, 32), 64)
 		y := someList(r, 64, 3)
 		least, greatest := scoreRange(c, y)
@@ -227,7 +227,7 @@ func TestBoundOfUnreadableCopies(t *testing.T) { // P7.4: each word has the scor
 func TestTraceScores(t *testing.T) { // P7.4
 	r := rand.New(rand.NewSource(16))
 	sizes := map[int]int{}
-	for range 300 {
+	for range 150 {
 		c := pick(r, someScores(r), scoresOf(r, 1+r.Intn(64), 4, 1+r.Intn(10)))
 		words := [][]uint8{scoreWordOf(c, 0), scoreWordOf(c, c.Users-1)}
 		y := pick(r, someFeasible(r, words), words[0], someList(r, len(c.Biases), 3))

@@ -185,7 +185,7 @@ func TestTailErrors(t *testing.T) { // P7.3, R5
 
 func TestThreshold(t *testing.T) { // P7.3
 	r := rand.New(rand.NewSource(5))
-	for range 400 {
+	for range 250 {
 		c := someSteps(r)
 		ks := []int{0, 1, c.Block, 2*c.Block - 1, 2 * c.Block, r.Intn(2*c.Block + 1)}
 		if c.Block < 8 {
@@ -225,7 +225,7 @@ func TestThresholdAtATail(t *testing.T) { // P7.3: a tail that is equal to the l
 func TestTraceSteps(t *testing.T) { // P7.3
 	r := rand.New(rand.NewSource(6))
 	sizes := map[int]int{}
-	for range 3000 {
+	for range 1500 {
 		c := someSteps(r)
 		y := pick(r, withWeights(r, c, someWeights(r, c)), someList(r, (c.Users-1)*c.Block, 3))
 		want := namedFor(c, weightsOf(c, y))
@@ -302,7 +302,7 @@ func silentWeights(c api.Steps) []int {
 func TestComplete(t *testing.T) { // P7.3
 	r := rand.New(rand.NewSource(8))
 	results := map[bool]int{}
-	for range 1000 {
+	for range 500 {
 		c := someSteps(r)
 		if c.Block == api.MaxBlock && r.Intn(10) > 0 {
 			c.Block = 1 + r.Intn(20)
@@ -321,7 +321,7 @@ func TestComplete(t *testing.T) { // P7.3
 			}
 		}
 	}
-	if results[true] < 100 || results[false] < 100 {
+	if results[true] < 50 || results[false] < 50 {
 		t.Error(results)
 	}
 }
